@@ -1,0 +1,1 @@
+"""Referees: who judges which game of a day."""
