@@ -2,7 +2,7 @@
 
 import unittest
 
-from helper import bar, begins, first_numbers, game, line, way
+from helper import bar, begins, first_numbers, game, games_of, line, way
 from refereeplans.day import Day, answers
 
 
@@ -151,7 +151,7 @@ class Game(unittest.TestCase):
         day.begins(1, 2)
         day.game(1, 10, 20, 3, 4)
         day.game(0, 30, 45, 6, 5)
-        self.assertEqual(day.games, [(1, 10, 20, 3, 4), (0, 30, 45, 6, 5)])
+        self.assertEqual(games_of(day), [(1, 10, 20, 3, 4), (0, 30, 45, 6, 5)])
 
 
 class Bar(unittest.TestCase):

@@ -6,7 +6,7 @@ import io
 import pathlib
 import unittest
 
-from helper import TOP, bar, begins, game, line, way
+from helper import BEST, FAIR, FEWEST, TOP, at, bar, begins, check, game, line, way
 from refereeplans.day import NoSuchCall, answers
 
 PACKAGE = pathlib.Path(__file__).resolve().parent.parent / "refereeplans"
@@ -28,6 +28,9 @@ LINES = (
     line(begins(0, 0), way(0, 0, 1001), game(1, 2, 1, 0, 0), bar(0, 20), bar(0, 3), bar(0, 3)),
     line(begins(TOP, TOP), way(TOP, TOP, TOP), game(TOP, TOP, TOP, TOP, TOP), bar(TOP, TOP)),
     line(*[game()] * 7),
+    line(check(), BEST, FEWEST, FAIR, check(0), check(*[TOP] * 8)),
+    line(begins(2, 2), way(0, 1, 20), at(0), at(50, 1), at(200), check(0, 1, 0), check(1, 0), BEST, FEWEST, FAIR, BEST),
+    line(at(0), at(5), check(0, 0), bar(0, 1), check(0, 0), check(0, 1), BEST, FEWEST, FAIR),
 )
 
 
@@ -43,7 +46,15 @@ class Interface(unittest.TestCase):
     def test_the_list_is_not_changed_for_a_while_either(self):
         for calls in LINES:
             with self.subTest(calls=calls):
-                self.assertEqual(answers(Untouched(calls)), answers(calls))
+                given = answers(Untouched(calls))
+                self.assertEqual(given, answers(calls))
+                self.assertIs(type(given), list)
+                self.assertEqual({type(number) for number in given}, {int})
+
+    def test_a_second_time_answers_as_the_first(self):
+        first = [answers(calls) for calls in LINES]
+        self.assertEqual([answers(calls) for calls in LINES], first)
+        self.assertEqual([answers(calls) for calls in reversed(LINES)], first[::-1])
 
     def test_changing_what_was_given_back_changes_nothing(self):
         for calls in LINES:

@@ -36,6 +36,10 @@ def nodes(tree, *kinds):
     return [node for node in ast.walk(tree) if isinstance(node, kinds)]
 
 
+def is_call_of(node, *names):
+    return isinstance(node, ast.Call) and isinstance(node.func, ast.Name) and node.func.id in names
+
+
 def bound_names(tree):
     names = [node.name for node in nodes(tree, ast.FunctionDef, ast.ClassDef)]
     names += [node.arg for node in nodes(tree, ast.arg)]
@@ -76,6 +80,28 @@ class Language(unittest.TestCase):
             self.assertEqual({node.__class__.__name__ for node in ast.walk(tree)} - NODES, set())
             self.assertEqual([node for node in nodes(tree, ast.For, ast.While) if node.orelse], [])
             self.assertEqual([node for node in nodes(tree, ast.Assign) if len(node.targets) > 1], [])
+
+    def test_l7_comprehensions(self):
+        for text, tree in each_file():
+            for node in nodes(tree, ast.ListComp):
+                self.assertEqual(len(node.generators), 1)
+                self.assertLessEqual(len(node.generators[0].ifs), 1)
+
+    def test_l24_sets(self):
+        for text, tree in each_file():
+            within = [node.args[0] for node in nodes(tree, ast.Call) if node.args and is_call_of(node, "len", "sorted")]
+            made = [node for node in nodes(tree, ast.Call) if is_call_of(node, "set")]
+            self.assertEqual([node for node in made if node not in within], [])
+            self.assertEqual(nodes(tree, ast.Set), [])
+
+    def test_l18_l26_methods_and_values(self):
+        trees = [tree for text, tree in each_file()]
+        classes = [own for tree in trees for own in nodes(tree, ast.ClassDef)]
+        methods = {node.name for own in classes for node in nodes(own, ast.FunctionDef)}
+        values = {node.attr for tree in trees for node in nodes(tree, ast.Attribute) if isinstance(node.ctx, ast.Store)}
+        self.assertEqual(methods & values, set())
+        taken = {name for kind in (str, int, list, tuple, dict, set, bytes) for name in dir(kind)}
+        self.assertEqual((methods | values) & taken - SPECIAL, set())
 
     def test_l8_l12_names(self):
         for text, tree in each_file():

@@ -2,7 +2,7 @@
 
 import unittest
 
-from helper import TOP, bar, begins, first_numbers, game, last_number, way
+from helper import TOP, bar, begins, first_numbers, game, games_of, last_number, way
 from refereeplans.day import Day
 
 SIX_GAMES = [game()] * 6
@@ -155,7 +155,7 @@ class GameRefused(unittest.TestCase):
         day.game(1, 10, 20, 3, 4)
         refused = [day.game(2, 0, 1, 0, 1), day.game(0, 1, 1, 0, 1), day.game(0, 0, 1, 0, 20)]
         self.assertEqual(refused, [-2, -1, -1])
-        self.assertEqual(day.games, [(1, 10, 20, 3, 4)])
+        self.assertEqual(games_of(day), [(1, 10, 20, 3, 4)])
         self.assertEqual(day.way_between(0, 1), 15)
 
 
